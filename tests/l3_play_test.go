@@ -45,8 +45,13 @@ func numberOf(position []int) int {
 	return number
 }
 
-// wantWinners solves all positions of a board from the full ones back, by the rules alone: it returns who wins by the player to move and by numberOf.
+// wantWinners solves all positions of a board; it returns who wins by the player to move and by numberOf.
 func wantWinners(b board) [impl.Second + 1][]int {
+	return wantSolved(b, func(joined int) int { return joined })
+}
+
+// wantSolved solves all positions of a board from the full ones back, by the rules alone, if wins says who wins once a player has joined.
+func wantSolved(b board, wins func(joined int) int) [impl.Second + 1][]int {
 	var positions [][]int
 	eachPosition(b, func(position []int) { positions = append(positions, position) })
 	var winners [impl.Second + 1][]int
@@ -56,16 +61,16 @@ func wantWinners(b board) [impl.Second + 1][]int {
 	// A move makes the number of a position greater: so what is behind it is solved already.
 	for number, position := range slices.Backward(positions) {
 		for _, turn := range players() {
-			winners[turn][number] = wantWinner(b, position, turn, winners)
+			winners[turn][number] = wantWinner(b, position, turn, winners, wins)
 		}
 	}
 	return winners
 }
 
-func wantWinner(b board, position []int, turn int, winners [impl.Second + 1][]int) int {
+func wantWinner(b board, position []int, turn int, winners [impl.Second + 1][]int, wins func(joined int) int) int {
 	for _, player := range players() {
 		if wantJoined(b, position, player) {
-			return player
+			return wins(player)
 		}
 	}
 	if len(wantWinning(position, turn, winners)) > 0 {
@@ -101,8 +106,12 @@ func wantLine(b board, position []int, turn int, winners [impl.Second + 1][]int)
 
 // eachSolved calls visit with each position of each board, each player to move, and the solved positions of the board.
 func eachSolved(visit func(b board, position []int, turn int, winners [impl.Second + 1][]int)) {
+	eachSolvedBy(wantWinners, visit)
+}
+
+func eachSolvedBy(solve func(b board) [impl.Second + 1][]int, visit func(b board, position []int, turn int, winners [impl.Second + 1][]int)) {
 	for _, b := range allBoards() {
-		winners := wantWinners(b)
+		winners := solve(b)
 		eachPosition(b, func(position []int) {
 			for _, turn := range players() {
 				visit(b, position, turn, winners)
