@@ -174,9 +174,9 @@ func freeOwners(n net) []int {
 	return make([]int, len(n.wires))
 }
 
-// wantLinked joins nodes that have a wire of a set between them under one label.
-func wantLinked(n net, set int) bool {
-	labels := make([]int, n.nodes)
+// labelled returns a label for each node, the same one just for nodes that wires of a set link, and whether each of these wires is needed for that.
+func labelled(n net, set int) ([]int, bool) {
+	labels, allNeeded := make([]int, n.nodes), true
 	for node := range labels {
 		labels[node] = node
 	}
@@ -184,13 +184,19 @@ func wantLinked(n net, set int) bool {
 		if !inSet(set, at) {
 			continue
 		}
-		old := labels[wire.A]
+		old, now := labels[wire.A], labels[wire.B]
+		allNeeded = allNeeded && old != now
 		for node, label := range labels {
 			if label == old {
-				labels[node] = labels[wire.B]
+				labels[node] = now
 			}
 		}
 	}
+	return labels, allNeeded
+}
+
+func wantLinked(n net, set int) bool {
+	labels, _ := labelled(n, set)
 	return labels[0] == labels[1]
 }
 
